@@ -1,0 +1,1 @@
+"""Twoknowers: interfaces for one who sees and one who hears."""
