@@ -2,21 +2,24 @@
 
 from twoknowers.errors import BadProgram
 
+MOST_PARTS = 4
+MOST_TICKS = 2
+
 
 class Program:
     """An interface: variables, parts of a screen, ticks, live parts and skipped parts."""
 
     def __init__(self, *, sizes, parts, ticks=(), live=(), skips=()):
         # Sizes come first, then parts: what is checked behind them relies on both.
-        if not _are_sizes(sizes):
+        if not are_sizes(sizes):
             raise BadProgram("sizes")
         if not _are_parts(sizes, parts):
             raise BadProgram("parts")
         if not _are_ticks(sizes, ticks):
             raise BadProgram("ticks")
-        if not _are_indexes(len(parts), live):
+        if not are_indexes(len(parts), live):
             raise BadProgram("live")
-        if not _are_indexes(len(parts), skips):
+        if not are_indexes(len(parts), skips):
             raise BadProgram("skips")
         self.sizes = sizes
         self.parts = parts
@@ -33,25 +36,25 @@ def _is_number(found, low, high):
     return low <= found <= high
 
 
-def _are_sizes(sizes):
+def are_sizes(sizes):
     """Whether these are the sizes of 1 to 3 variables (point 10)."""
     return 1 <= len(sizes) <= 3 and all(_is_number(size, 2, 4) for size in sizes)
 
 
 def _are_parts(sizes, parts):
     """Whether these are 1 to 4 parts (point 11)."""
-    return 1 <= len(parts) <= 4 and all(_is_part(sizes, part) for part in parts)
+    return 1 <= len(parts) <= MOST_PARTS and all(_is_part(sizes, part) for part in parts)
 
 
 def _is_part(sizes, part):
     """Whether this is a part with a look, a word, and a press or none (point 11)."""
     look, word, press = part
-    if not _is_shown(sizes, look) or not _is_shown(sizes, word):
+    if not is_shown(sizes, look) or not is_shown(sizes, word):
         return False
-    return press is None or _are_changes(sizes, press)
+    return press is None or are_changes(sizes, press)
 
 
-def _is_shown(sizes, pair):
+def is_shown(sizes, pair):
     """Whether this is a variable with a number for each of its values (point 11)."""
     variable, table = pair
     if not _is_number(variable, 0, len(sizes) - 1):
@@ -59,7 +62,7 @@ def _is_shown(sizes, pair):
     return len(table) == sizes[variable] and all(_is_number(entry, 0, 7) for entry in table)
 
 
-def _are_changes(sizes, changes):
+def are_changes(sizes, changes):
     """Whether these are 1 to 3 changes (point 12)."""
     return 1 <= len(changes) <= 3 and all(_is_change(sizes, change) for change in changes)
 
@@ -72,10 +75,10 @@ def _is_change(sizes, change):
 
 def _are_ticks(sizes, ticks):
     """Whether these are 0 to 2 ticks (point 13)."""
-    return len(ticks) <= 2 and all(_are_changes(sizes, tick) for tick in ticks)
+    return len(ticks) <= MOST_TICKS and all(are_changes(sizes, tick) for tick in ticks)
 
 
-def _are_indexes(many, indexes):
+def are_indexes(many, indexes):
     """Whether these are indexes of `many` things, each at most once, ascending (point 13)."""
     low = 0
     for index in indexes:
